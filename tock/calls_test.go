@@ -1,6 +1,7 @@
 package tock_test
 
 import (
+	"fmt"
 	"math"
 	"slices"
 	"strings"
@@ -66,6 +67,14 @@ func TestP1TheErrorNamedFirst(t *testing.T) {
 		if e, _ := tock.Check(c.zone, c.fields); e != c.want {
 			t.Errorf("Check(%.20q, %.20q) = %d, want %d", c.zone, c.fields, e, c.want)
 		}
+		for _, minute := range []int{-1, 0, 70000001} {
+			if _, e := tock.Runs(c.zone, c.fields, minute); e != c.want {
+				t.Errorf("Runs(%.20q, %.20q, %d) = %d, want %d", c.zone, c.fields, minute, e, c.want)
+			}
+			if _, e := tock.Next(c.zone, c.fields, minute); e != c.want {
+				t.Errorf("Next(%.20q, %.20q, %d) = %d, want %d", c.zone, c.fields, minute, e, c.want)
+			}
+		}
 	}
 	for _, c := range []struct {
 		zone   string
@@ -84,10 +93,20 @@ func TestP1TheErrorNamedFirst(t *testing.T) {
 }
 
 func TestP1ZeroValuesWithAnError(t *testing.T) {
-	for _, zone := range oddTexts() {
+	for _, text := range oddTexts() {
 		for _, minute := range oddMinutes {
-			if s, e := tock.Local(zone, minute); (s == "") != (e != tock.OK) {
-				t.Errorf("Local(%.20q, %d) = %q, %d", zone, minute, s, e)
+			if s, e := tock.Local(text, minute); (s == "") != (e != tock.OK) {
+				t.Errorf("Local(%.20q, %d) = %q, %d", text, minute, s, e)
+			}
+			for _, zone := range []string{text, place} {
+				for _, fields := range []string{text, "* * * * *", "0 0 31 2 *"} {
+					if runs, e := tock.Runs(zone, fields, minute); runs && e != tock.OK {
+						t.Errorf("Runs(%.20q, %.20q, %d) = %v, %d", zone, fields, minute, runs, e)
+					}
+					if n, e := tock.Next(zone, fields, minute); n != 0 && e != tock.OK {
+						t.Errorf("Next(%.20q, %.20q, %d) = %d, %d", zone, fields, minute, n, e)
+					}
+				}
 			}
 		}
 	}
@@ -96,6 +115,15 @@ func TestP1ZeroValuesWithAnError(t *testing.T) {
 // answers asks the same of the calls each time.
 func answers() []string {
 	var all []string
+	for _, zone := range goodZones {
+		for _, fields := range append(oddTexts(), goodFields...) {
+			for _, minute := range oddMinutes {
+				runs, e := tock.Runs(zone, fields, minute)
+				n, ne := tock.Next(zone, fields, minute)
+				all = append(all, fmt.Sprint(runs, e, n, ne))
+			}
+		}
+	}
 	for _, text := range oddTexts() {
 		e, at := tock.Check(text, text)
 		all = append(all, string(rune('0'+e))+string(rune(at)))

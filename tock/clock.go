@@ -7,7 +7,8 @@ const (
 	maxShift  = 120
 	maxOffset = 14 * 60
 	// A rule's bounds keep both of its turn's ends within one day, whatever
-	// the shift.
+	// the shift: so what the clock skips or shows twice has one date. They
+	// keep any two turns further apart than the shift, too.
 	leastRuleTime = 2 * 60
 	mostRuleTime  = 21*60 + 59
 )
@@ -91,27 +92,46 @@ func (r rule) day(year int) int {
 
 func (r rule) minute(year int) int { return r.day(year)*dayMinutes + r.time }
 
-// summer tells whether there is summer at a minute of the standard clock.
-func (c clock) summer(standard int) bool {
-	if c.shift == 0 {
-		return false
-	}
-	year := yearOf(floorDiv(standard, dayMinutes))
+// stretch is a time between two turns of the clock, by the standard clock: to
+// is left out. In it the clock is ahead of the standard clock by one number.
+type stretch struct{ from, to, ahead int }
+
+func (s stretch) summer() bool { return s.ahead > 0 }
+
+// turns tells when the clock is turned in a year, by the standard clock.
+func (c clock) turns(year int) (first, second int) {
 	begin := c.begin.minute(year)
 	// The clock in use ahead of summer's end is the shifted one.
 	end := c.end.minute(year) - c.shift
-	if c.begin.month < c.end.month {
-		return begin <= standard && standard < end
+	return min(begin, end), max(begin, end)
+}
+
+// stretchAt tells in which stretch a minute of the standard clock lies.
+func (c clock) stretchAt(standard int) stretch {
+	if c.shift == 0 {
+		return stretch{-maxOffset, maxMinute + maxOffset + 1, 0}
 	}
-	return standard < end || begin <= standard
+	between, around := c.shift, 0
+	if c.begin.month > c.end.month {
+		between, around = around, between
+	}
+	year := yearOf(floorDiv(standard, dayMinutes))
+	first, second := c.turns(year)
+	switch {
+	case standard < first:
+		_, before := c.turns(year - 1)
+		return stretch{before, first, around}
+	case standard < second:
+		return stretch{first, second, between}
+	default:
+		after, _ := c.turns(year + 1)
+		return stretch{second, after, around}
+	}
 }
 
 // shown tells the clock's time at a minute, as minutes since the clock itself
 // would have shown the beginning of 1970.
 func (c clock) shown(minute int) int {
 	standard := minute + c.offset
-	if c.summer(standard) {
-		return standard + c.shift
-	}
-	return standard
+	return standard + c.stretchAt(standard).ahead
 }

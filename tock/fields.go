@@ -8,43 +8,57 @@ var fieldBounds = [5]bounds{{0, 59}, {0, 23}, {1, 31}, {1, 12}, {0, 6}}
 // maxStep is what two digits can tell: a step may go beyond its field.
 const maxStep = 99
 
-// checkFields leaves the text's length to its caller.
-func checkFields(text string) (Errno, int) {
+// field is the set that a field tells. Whether the field begins with `*`
+// matters even where the set is the same.
+type field struct {
+	numbers
+	starred bool
+}
+
+// plan is what a job's fields tell.
+type plan struct{ minute, hour, day, month, weekday field }
+
+// readFields reads a job's fields; with an error it tells the place, too. It
+// leaves the text's length to its caller.
+func readFields(text string) (plan, Errno, int) {
 	s := scanner{text: text}
+	var f [len(fieldBounds)]field
 	for i, b := range fieldBounds {
 		if i > 0 {
 			s.need(' ')
 		}
-		s.field(b)
+		f[i] = s.field(b)
 	}
 	s.needEnd()
 	if s.failed {
-		return ErrFields, s.fault
+		return plan{}, ErrFields, s.fault
 	}
-	return OK, 0
+	return plan{f[0], f[1], f[2], f[3], f[4]}, OK, 0
 }
 
-func (s *scanner) field(b bounds) {
+func (s *scanner) field(b bounds) field {
 	if s.took('*') {
-		s.step()
-		return
+		return field{eachOf(b.least, b.most, s.step()), true}
 	}
-	s.item(b)
+	all := s.item(b)
 	for s.took(',') {
-		s.item(b)
+		all |= s.item(b)
 	}
+	return field{all, false}
 }
 
-func (s *scanner) item(b bounds) {
+func (s *scanner) item(b bounds) numbers {
 	first := s.number(b.least, b.most)
-	if s.took('-') {
-		s.number(first, b.most)
-		s.step()
+	if !s.took('-') {
+		return eachOf(first, first, 1)
 	}
+	last := s.number(first, b.most)
+	return eachOf(first, last, s.step())
 }
 
-func (s *scanner) step() {
-	if s.took('/') {
-		s.number(1, maxStep)
+func (s *scanner) step() int {
+	if !s.took('/') {
+		return 1
 	}
+	return s.number(1, maxStep)
 }

@@ -131,32 +131,60 @@ type wall struct {
 	zone          string
 	offset, shift time.Duration
 	begin, end    turn
+	known         map[int][2]time.Time // the turns of years that were asked for
 }
 
 func walls() []wall {
 	hour := time.Hour
-	return []wall{
-		{place, hour, hour, turn{3, 5, 0, 2, 0, 0}, turn{10, 5, 0, 3, 0, hour}},
-		{"-05:00 60 3.2.0@02:00 11.1.0@02:00", -5 * hour, hour, turn{3, 2, 0, 2, 0, 0}, turn{11, 1, 0, 2, 0, hour}},
-		{"+10:30 30 10.1.0@02:00 4.1.0@02:00", 10*hour + hour/2, hour / 2, turn{10, 1, 0, 2, 0, 0}, turn{4, 1, 0, 2, 0, hour / 2}},
-		{"-14:00 120 12.5.6@21:59 1.1.1@02:00", -14 * hour, 2 * hour, turn{12, 5, 6, 21, 59, 0}, turn{1, 1, 1, 2, 0, 2 * hour}},
-		{"+14:00 1 1.1.3@02:00 12.5.4@21:59", 14 * hour, time.Minute, turn{1, 1, 3, 2, 0, 0}, turn{12, 5, 4, 21, 59, time.Minute}},
-		{"+00:00 119 2.5.2@13:07 3.1.2@02:00", 0, 119 * time.Minute, turn{2, 5, 2, 13, 7, 0}, turn{3, 1, 2, 2, 0, 119 * time.Minute}},
-		{"-03:30 45 7.3.5@09:09 6.4.1@20:20", -3*hour - hour/2, 45 * time.Minute, turn{7, 3, 5, 9, 9, 0}, turn{6, 4, 1, 20, 20, 45 * time.Minute}},
+	all := []wall{
+		{place, hour, hour, turn{3, 5, 0, 2, 0, 0}, turn{10, 5, 0, 3, 0, hour}, nil},
+		{"-05:00 60 3.2.0@02:00 11.1.0@02:00", -5 * hour, hour, turn{3, 2, 0, 2, 0, 0}, turn{11, 1, 0, 2, 0, hour}, nil},
+		{"+10:30 30 10.1.0@02:00 4.1.0@02:00", 10*hour + hour/2, hour / 2, turn{10, 1, 0, 2, 0, 0}, turn{4, 1, 0, 2, 0, hour / 2}, nil},
+		{"-14:00 120 12.5.6@21:59 1.1.1@02:00", -14 * hour, 2 * hour, turn{12, 5, 6, 21, 59, 0}, turn{1, 1, 1, 2, 0, 2 * hour}, nil},
+		{"+14:00 1 1.1.3@02:00 12.5.4@21:59", 14 * hour, time.Minute, turn{1, 1, 3, 2, 0, 0}, turn{12, 5, 4, 21, 59, time.Minute}, nil},
+		{"+00:00 119 2.5.2@13:07 3.1.2@02:00", 0, 119 * time.Minute, turn{2, 5, 2, 13, 7, 0}, turn{3, 1, 2, 2, 0, 119 * time.Minute}, nil},
+		{"-03:30 45 7.3.5@09:09 6.4.1@20:20", -3*hour - hour/2, 45 * time.Minute, turn{7, 3, 5, 9, 9, 0}, turn{6, 4, 1, 20, 20, 45 * time.Minute}, nil},
 	}
+	for i := range all {
+		all[i].known = map[int][2]time.Time{}
+	}
+	return all
 }
 
-func (w wall) shows(minute int) string {
+// turnsOf tells the standard clock's times of summer's begin and end.
+func (w wall) turnsOf(year int) (begin, end time.Time) {
+	if _, ok := w.known[year]; !ok {
+		w.known[year] = [2]time.Time{w.begin.in(year), w.end.in(year)}
+	}
+	return w.known[year][0], w.known[year][1]
+}
+
+// at tells the clock's time, as if it were UTC.
+func (w wall) at(minute int) time.Time {
 	standard := time.Unix(int64(minute)*60, 0).UTC().Add(w.offset)
-	begin, end := w.begin.in(standard.Year()), w.end.in(standard.Year())
+	if w.shift == 0 {
+		return standard
+	}
+	begin, end := w.turnsOf(standard.Year())
 	summer := !standard.Before(begin) && standard.Before(end)
 	if w.begin.month > w.end.month {
 		summer = standard.Before(end) || !standard.Before(begin)
 	}
 	if summer {
-		standard = standard.Add(w.shift)
+		return standard.Add(w.shift)
 	}
-	return standard.Format(layout) + " " + string(rune('0'+standard.Weekday()))
+	return standard
+}
+
+func (w wall) shows(minute int) string {
+	at := w.at(minute)
+	return at.Format(layout) + " " + string(rune('0'+at.Weekday()))
+}
+
+// turnsIn tells the minutes at which the clock is turned in a year.
+func (w wall) turnsIn(year int) []int {
+	begin, end := w.turnsOf(year)
+	return []int{int(begin.Add(-w.offset).Unix() / 60), int(end.Add(-w.offset).Unix() / 60)}
 }
 
 func TestP4AllYears(t *testing.T) {
@@ -171,8 +199,7 @@ func TestP4AllYears(t *testing.T) {
 func TestP4AllTurns(t *testing.T) {
 	for _, w := range walls() {
 		for year := 1970; year <= 2103; year++ {
-			for _, r := range []turn{w.begin, w.end} {
-				at := int(r.in(year).Add(-w.offset).Unix() / 60)
+			for _, at := range w.turnsIn(year) {
 				for minute := max(0, at-2); minute <= min(at+2, maxMinute); minute++ {
 					wantLocal(t, w.zone, minute, w.shows(minute))
 				}

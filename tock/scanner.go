@@ -60,7 +60,8 @@ func (s *scanner) twoDigits() int {
 
 // number takes all digits that stand here, even more than there may be:
 // whatever is wrong with them is a fault of the first one. They need not be
-// counted: without needless zeros too many of them are above any bound.
+// counted: without needless zeros too many of them are above any bound. After
+// a fault it answers the least one, so that its caller can go on with it.
 func (s *scanner) number(least, most int) int {
 	start := s.at
 	for s.atDigit() {
@@ -70,7 +71,7 @@ func (s *scanner) number(least, most int) int {
 	n, err := strconv.Atoi(run)
 	if err != nil || len(run) > 1 && run[0] == '0' || n < least || n > most {
 		s.fail(start)
-		return 0
+		return least
 	}
 	return n
 }

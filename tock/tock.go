@@ -27,15 +27,25 @@ type Span struct{ From, To int }
 
 // Check looks at a zone and at a job's fields (P3).
 func Check(zone string, fields string) (Errno, int) {
-	// Fields that are too long come ahead of whatever is wrong in the zone.
-	if len(zone) > maxText || len(fields) > maxText {
-		return ErrLong, 0
-	}
-	if _, errno, place := readClock(zone); errno != OK {
-		return errno, place
-	}
-	return checkFields(fields)
+	_, _, errno, place := read(zone, fields)
+	return errno, place
 }
+
+// read reads both; with an error it tells the place, too.
+func read(zone, fields string) (clock, plan, Errno, int) {
+	// Fields that are too long come ahead of whatever is wrong in the zone.
+	if len(fields) > maxText {
+		return clock{}, plan{}, ErrLong, 0
+	}
+	c, errno, place := readClock(zone)
+	if errno != OK {
+		return clock{}, plan{}, errno, place
+	}
+	p, errno, place := readFields(fields)
+	return c, p, errno, place
+}
+
+func inRange(minute int) bool { return 0 <= minute && minute <= maxMinute }
 
 // Local tells what the clock shows (P4).
 func Local(zone string, minute int) (string, Errno) {
@@ -43,17 +53,40 @@ func Local(zone string, minute int) (string, Errno) {
 	if errno != OK {
 		return "", errno
 	}
-	if minute < 0 || minute > maxMinute {
+	if !inRange(minute) {
 		return "", ErrRange
 	}
 	return tellTime(c.shown(minute)), OK
 }
 
-// Runs tells whether a job runs at a minute (P5). It is not built yet.
-func Runs(zone string, fields string, minute int) (bool, Errno) { return false, OK }
+// Runs tells whether a job runs at a minute (P5).
+func Runs(zone string, fields string, minute int) (bool, Errno) {
+	c, p, errno, _ := read(zone, fields)
+	if errno != OK {
+		return false, errno
+	}
+	if !inRange(minute) {
+		return false, ErrRange
+	}
+	_, runs := c.nextRun(p, minute, minute+1)
+	return runs, OK
+}
 
-// Next tells the next minute at which a job runs (P6). It is not built yet.
-func Next(zone string, fields string, minute int) (int, Errno) { return 0, OK }
+// Next tells the next minute at which a job runs (P6).
+func Next(zone string, fields string, minute int) (int, Errno) {
+	c, p, errno, _ := read(zone, fields)
+	if errno != OK {
+		return 0, errno
+	}
+	if !inRange(minute) {
+		return 0, ErrRange
+	}
+	next, found := c.nextRun(p, minute, maxMinute+1)
+	if !found {
+		return 0, ErrNone
+	}
+	return next, OK
+}
 
 // Tell tells what a machine runs (P7). It is not built yet.
 func Tell(zone string, jobs []Job, spans []Span) (string, Errno, int) { return "", OK, 0 }
