@@ -33,6 +33,12 @@ var oddMinutes = []int{
 	70000001, math.MaxInt32, math.MaxInt,
 }
 
+// oddJobs run always, never, seldom and all at once.
+var oddJobs = []tock.Job{
+	{Name: "a", Fields: "* * * * *"}, {Name: "b", Fields: "0 0 30 2 *"}, {Name: "c", Fields: "0 0 29 2 */6"},
+	{Name: "a", Fields: "0-59 0-23 1-31 1-12 0-6"},
+}
+
 func TestP1EveryCallEndsAndNonePanics(t *testing.T) {
 	for _, a := range oddTexts() {
 		for _, b := range oddTexts() {
@@ -49,6 +55,13 @@ func TestP1EveryCallEndsAndNonePanics(t *testing.T) {
 		tock.Tell(a, nil, nil)
 	}
 	tock.Tell(place, make([]tock.Job, 1000), make([]tock.Span, 1000))
+	for _, from := range oddMinutes {
+		for _, to := range oddMinutes {
+			tock.Tell(place, oddJobs, []tock.Span{{From: from, To: to}})
+			tock.Tell(place, oddJobs, []tock.Span{{From: 0, To: from}, {From: to, To: to}})
+			tock.Tell(place, oddJobs, []tock.Span{{From: 0, To: 0}, {From: from, To: to}})
+		}
+	}
 }
 
 func TestP1TheErrorNamedFirst(t *testing.T) {
@@ -98,6 +111,16 @@ func TestP1ZeroValuesWithAnError(t *testing.T) {
 			if s, e := tock.Local(text, minute); (s == "") != (e != tock.OK) {
 				t.Errorf("Local(%.20q, %d) = %q, %d", text, minute, s, e)
 			}
+			jobs := []tock.Job{{Name: "a", Fields: every}, {Name: text, Fields: every}}
+			for _, to := range oddMinutes {
+				spans := []tock.Span{{From: 0, To: 1}, {From: minute, To: to}}
+				if s, e, _ := tock.Tell(place, jobs, spans); s != "" && e != tock.OK {
+					t.Errorf("Tell(.., %.20q, %d, %d) = %.20q, %d", text, minute, to, s, e)
+				}
+				if s, e, _ := tock.Tell(text, jobs[:1], spans); s != "" && e != tock.OK {
+					t.Errorf("Tell(%.20q, .., %d, %d) = %.20q, %d", text, minute, to, s, e)
+				}
+			}
 			for _, zone := range []string{text, place} {
 				for _, fields := range []string{text, "* * * * *", "0 0 31 2 *"} {
 					if runs, e := tock.Runs(zone, fields, minute); runs && e != tock.OK {
@@ -122,6 +145,12 @@ func answers() []string {
 				n, ne := tock.Next(zone, fields, minute)
 				all = append(all, fmt.Sprint(runs, e, n, ne))
 			}
+		}
+	}
+	for _, from := range oddMinutes {
+		for _, length := range []int{0, 1, 149, 150, 151, 9999} {
+			s, e, at := tock.Tell(place, oddJobs, []tock.Span{{From: 0, To: 1}, {From: from, To: from + length}})
+			all = append(all, fmt.Sprint(s, e, at))
 		}
 	}
 	for _, text := range oddTexts() {
@@ -157,13 +186,16 @@ func TestP2ArgumentsAlone(t *testing.T) {
 }
 
 func TestP2ListsAreNotChanged(t *testing.T) {
-	jobs := []tock.Job{{Name: "b", Fields: "30 2 * * *"}, {Name: "a", Fields: "* * * * *"}, {Name: "", Fields: "x"}}
-	spans := []tock.Span{{From: 29579090, To: 29579095}, {From: 29579099, To: 29579110}, {From: 5, To: 1}}
-	for n := range jobs {
-		haveJobs, haveSpans := slices.Clone(jobs), slices.Clone(spans)
-		tock.Tell(place, haveJobs[:n+1], haveSpans[:n+1])
-		if !slices.Equal(haveJobs, jobs) || !slices.Equal(haveSpans, spans) {
-			t.Errorf("Tell of %d jobs and spans changed a list", n+1)
+	jobs := []tock.Job{{Name: "b", Fields: "30 2 * * *"}, {Name: "a", Fields: "* * * * *"}, {Name: "a", Fields: "30 * * * *"}, {Name: "", Fields: "x"}}
+	spans := []tock.Span{{From: 29579090, To: 29579095}, {From: 29579099, To: 29579110}, {From: 29579200, To: 29579999}, {From: 5, To: 1}}
+	for j := range len(jobs) + 1 {
+		for s := range len(spans) + 1 {
+			haveJobs, haveSpans := slices.Clone(jobs), slices.Clone(spans)
+			_, errno, _ := tock.Tell(place, haveJobs[:j], haveSpans[:s])
+			// What lies behind a list's end is not Tell's, either.
+			if !slices.Equal(haveJobs, jobs) || !slices.Equal(haveSpans, spans) {
+				t.Errorf("Tell of %d jobs and %d spans (%d) changed a list", j, s, errno)
+			}
 		}
 	}
 }

@@ -25,3 +25,25 @@ func tellTime(shown int) string {
 		strconv.Itoa(weekdayOf(day)),
 	)
 }
+
+// tellRuns tells what comes along the channel, each run on a line. If that is
+// more than may be told, it takes no more and says that it has enough.
+func tellRuns(jobs []Job, runs <-chan run, enough chan<- struct{}) (string, Errno) {
+	var lines []string
+	for r := range runs {
+		if len(lines) == maxTold {
+			close(enough)
+			return "", ErrMany
+		}
+		lines = append(lines, tellRun(r, jobs[r.job].Name))
+	}
+	return together(lines...), OK
+}
+
+func tellRun(r run, name string) string {
+	late := ""
+	if r.late {
+		late = " late"
+	}
+	return together(strconv.Itoa(r.minute), " ", name, late, "\n")
+}

@@ -17,6 +17,10 @@ const (
 const (
 	maxText   = 100
 	maxMinute = 70000000
+	maxJobs   = 6
+	maxSpans  = 6
+	maxTold   = 300
+	maxName   = 10
 )
 
 // Job is a name and when it runs.
@@ -88,5 +92,24 @@ func Next(zone string, fields string, minute int) (int, Errno) {
 	return next, OK
 }
 
-// Tell tells what a machine runs (P7). It is not built yet.
-func Tell(zone string, jobs []Job, spans []Span) (string, Errno, int) { return "", OK, 0 }
+// Tell tells what a machine runs (P7).
+func Tell(zone string, jobs []Job, spans []Span) (string, Errno, int) {
+	if len(jobs) > maxJobs || len(spans) > maxSpans {
+		return "", ErrRange, 0
+	}
+	c, errno, place := readClock(zone)
+	if errno != OK {
+		return "", errno, place
+	}
+	plans, errno, number := readJobs(jobs)
+	if errno != OK {
+		return "", errno, number
+	}
+	errno, number = checkSpans(spans)
+	if errno != OK {
+		return "", errno, number
+	}
+	m := machine{clock: c, plans: plans, spans: spans}
+	told, errno := m.tell(jobs)
+	return told, errno, 0
+}
